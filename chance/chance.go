@@ -1,4 +1,4 @@
-// Package chance makes classes by chance, for tests of layers that need right ones.
+// Package chance makes classes by chance, and turns the code of files by chance, for tests of layers that need right ones.
 package chance
 
 import (

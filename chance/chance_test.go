@@ -7,8 +7,11 @@ import (
 	"kiln/api"
 	"kiln/ast"
 	"kiln/chance"
+	"kiln/class"
 	"kiln/face"
+	"kiln/gen"
 	"kiln/hier"
+	"kiln/op"
 	"kiln/parse"
 	"kiln/types"
 )
@@ -36,7 +39,7 @@ func count(c ast.Class, kinds map[ast.Kind]int, does map[ast.Does]int) {
 	}
 }
 
-// All texts are classes, right beside each other, and all kinds of things come in them.
+// All texts are classes, right beside each other, of which Files are the files; and all kinds of things come in them.
 func TestTextsAreRight(t *testing.T) {
 	kinds, does := map[ast.Kind]int{}, map[ast.Does]int{}
 	for seed := range uint64(400) {
@@ -50,11 +53,21 @@ func TestTextsAreRight(t *testing.T) {
 			list, faces = append(list, c), append(faces, face.Of(c))
 		}
 		tab := hier.New(faces...)
+		var files []class.File
 		for _, c := range list {
-			if _, f := types.Check(tab, c); f.E != api.OK {
+			c, f := types.Check(tab, c)
+			if f.E != api.OK {
 				t.Fatal(seed, c.Text(), f)
 			}
 			count(c, kinds, does)
+			x, e := gen.Class(tab, c)
+			if e != api.OK {
+				t.Fatal(seed, c.Text(), e)
+			}
+			files = append(files, x)
+		}
+		if bytes(t, files) != bytes(t, chance.Files(seed)) {
+			t.Fatal(seed)
 		}
 		_, sig, ok := tab.Method("Main", "go", true)
 		if !ok || !slices.Equal(sig.Params, []ast.Type{ast.Int(), ast.Int()}) || sig.Ret != ast.Int() {
@@ -82,5 +95,53 @@ func TestSeeds(t *testing.T) {
 			t.Fatal(seed)
 		}
 		last = a
+	}
+}
+
+// bytes are files as they are kept, which they are only as long as all of them are right.
+func bytes(t *testing.T, list []class.File) string {
+	t.Helper()
+	s, e := class.Archive(list...)
+	if e != api.OK {
+		t.Fatal(e)
+	}
+	return s
+}
+
+// Files that are turned stay right, with the faces that they had; one seed has one answer, and what was handed in is what it was. All codes come in what is turned.
+func TestTurned(t *testing.T) {
+	codes := map[op.Code]int{}
+	unlike := 0
+	for seed := range uint64(40) {
+		list := chance.Files(seed)
+		for i := range uint64(60) {
+			was := bytes(t, list)
+			a, b := chance.Turned(i, list), chance.Turned(i, list)
+			if bytes(t, a) != bytes(t, b) || bytes(t, list) != was {
+				t.Fatal(seed, i)
+			}
+			if bytes(t, a) != was {
+				unlike++
+			}
+			for j := range list {
+				if !a[j].Face.Same(list[j].Face) {
+					t.Fatal(seed, i, a[j].Face)
+				}
+				for _, x := range a[j].Bodies {
+					for _, in := range x.Code {
+						codes[in.Code]++
+					}
+				}
+			}
+			list = a
+		}
+	}
+	if unlike < 40*60/2 {
+		t.Error(unlike)
+	}
+	for c := op.Int; c <= op.Zero; c++ {
+		if codes[c] == 0 {
+			t.Error(c.Name())
+		}
 	}
 }

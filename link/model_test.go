@@ -11,11 +11,8 @@ import (
 	"kiln/chance"
 	"kiln/class"
 	"kiln/face"
-	"kiln/gen"
 	"kiln/hier"
 	"kiln/link"
-	"kiln/parse"
-	"kiln/types"
 )
 
 // model is files told as plainly as the document does, each call in the words of the chapter.
@@ -139,41 +136,12 @@ func held(t *testing.T, m *link.Image, like model) {
 	}
 }
 
-// compiled are the files of classes made by chance.
-func compiled(t testing.TB, seed uint64) []class.File {
-	t.Helper()
-	var list []ast.Class
-	var faces []face.Face
-	for _, s := range chance.Texts(seed) {
-		c, f := parse.Class(s)
-		if f.E != api.OK {
-			t.Fatal(seed, f)
-		}
-		list = append(list, c)
-		faces = append(faces, face.Of(c))
-	}
-	tab := hier.New(faces...)
-	var all []class.File
-	for _, c := range list {
-		c, f := types.Check(tab, c)
-		if f.E != api.OK {
-			t.Fatal(seed, f)
-		}
-		x, e := gen.Class(tab, c)
-		if e != api.OK {
-			t.Fatal(seed, e)
-		}
-		all = append(all, x)
-	}
-	return all
-}
-
 const seeds = uint64(300)
 
 // P14.1, P14.2: what layer 13 makes of classes that are right beside each other fits together, in any order.
 func TestCompiledFits(t *testing.T) {
 	for seed := range seeds {
-		list := compiled(t, seed)
+		list := chance.Files(seed)
 		for range 2 {
 			for range list {
 				list = append(list[1:len(list):len(list)], list[0])
@@ -205,7 +173,7 @@ func certain(m model) bool {
 func TestOneLeftOut(t *testing.T) {
 	came := map[api.Errno]int{}
 	for seed := range seeds {
-		list := compiled(t, seed)
+		list := chance.Files(seed)
 		for i := range list {
 			rest := slices.Delete(slices.Clone(list), i, i+1)
 			like := modelOf(rest)
@@ -271,7 +239,7 @@ func TestTurned(t *testing.T) {
 	r := rand.New(rand.NewSource(14))
 	came := map[api.Errno]int{}
 	for seed := range seeds {
-		made := compiled(t, seed)
+		made := chance.Files(seed)
 		for range 20 {
 			list := slices.Clone(made)
 			r.Shuffle(len(list), func(i, j int) { list[i], list[j] = list[j], list[i] })
